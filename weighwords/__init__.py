@@ -1,0 +1,1 @@
+"""Weighwords: machines that give each word a weight."""
