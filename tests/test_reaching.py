@@ -2,21 +2,25 @@
 
 import unittest
 from fractions import Fraction
+from math import gcd
 
 from tests import test_comparing, test_making
-from tests.things import in_other_order, machine_of, part_of, plan_of, rare_parts, small_parts, with_rows_mixed
+from tests.things import (copied, fraction, in_other_order, machine_of, part_of, plan_of, rare_parts, small_parts,
+                          with_rows_mixed)
 from weighwords.making import grounds, small
-from weighwords.reaching import Rests, reached
+from weighwords.reaching import Moduli, Rests, reached
 
 NOUGHT, ONE = (0, 1), (1, 1)
 
-# The first moduli, and the first one as a product.
-FIRST, SECOND, THIRD = 2 ** 256 + 1, 2 ** 512 + 1, 2 ** 1024 + 1
-FACTOR = 1238926361552897
+moduli = Moduli()
+
+# The first moduli of the search, and the first one as a product.
+FIRST, SECOND, THIRD, FOURTH = [moduli.another() for _ in range(4)]
+FACTOR = 2424833
 OTHER_FACTOR = FIRST // FACTOR
 
-UNLUCKY = [FIRST, FIRST * FIRST, FIRST * SECOND, FIRST * SECOND * THIRD, FACTOR, OTHER_FACTOR, 3 * FACTOR, SECOND,
-           FIRST - 1, FIRST + 1, 2 ** 112, 2 ** 112 + 1, 2 ** 256, 2 ** 700 + 3]
+UNLUCKY = [FIRST, FIRST * FIRST, FIRST * SECOND, FIRST * SECOND * THIRD, SECOND * FOURTH, FACTOR, OTHER_FACTOR,
+           3 * FACTOR, SECOND, FIRST - 1, FIRST + 1, 2 ** 240, 2 ** 240 + 1, 2 ** 512, 2 ** 1400 + 3]
 
 
 def unlucky_parts():
@@ -24,9 +28,22 @@ def unlucky_parts():
                                                     (5 - number, 1), (2 * number + 1, number - 1))]
 
 
+def with_room_scaled(plan, at, part):
+    """The plan in other rooms: the places of one in all rows are taken so many times."""
+    signs, begins, moves, ends = copied(plan)
+    begins[at] = part_of(fraction(begins[at]) * fraction(part))
+    ends[at] = part_of(fraction(ends[at]) / fraction(part))
+    for table in moves:
+        for row in table:
+            row[at] = part_of(fraction(row[at]) * fraction(part))
+        table[at] = [part_of(fraction(its) / fraction(part)) for its in table[at]]
+    return (signs, begins, moves, ends)
+
+
 class ComparingTest(test_comparing.Asked):
     def test_the_factors(self):
         self.assertEqual(FACTOR * OTHER_FACTOR, FIRST)
+        self.assertEqual(FIRST, 2 ** 512 + 1)
 
     def test_one_number(self):
         for top, bottom in unlucky_parts():
@@ -62,14 +79,18 @@ class ComparingTest(test_comparing.Asked):
 
     def test_ways_that_add_up_to_the_modulus(self):
         # So the short word weighs something, but nothing by rests; the longer one weighs something by rests, too.
-        half, whole = (2 ** 128, 1), (2 ** 256, 1)
+        half, whole = (2 ** 256, 1), (2 ** 512, 1)
         empty = plan_of(0, "a", 0)
         table = [[NOUGHT, ONE], [ONE, ONE]]
-        for begins, ends in [([half, ONE], [half, ONE]), ([ONE, ONE], [whole, ONE]), ([whole, ONE], [ONE, ONE])]:
+        for begins, ends in [([half, ONE], [half, ONE]), ([ONE, ONE], [whole, ONE]), ([whole, ONE], [ONE, ONE]),
+                             ([(3, 1), ONE], [((2 ** 512 - 1) // 3, 1), (2, 1)])]:
             self.assert_unlike(("a", begins, [table], ends), empty, 0)
         for first, second in [(half, half), (ONE, whole), (whole, ONE)]:
             table = [[NOUGHT, first, ONE], [NOUGHT, ONE, NOUGHT], [NOUGHT, NOUGHT, NOUGHT]]
             self.assert_unlike(("a", [ONE, NOUGHT, NOUGHT], [table], [NOUGHT, second, ONE]), empty, 1)
+        # Over two bottoms, the one way is taken 2 ** 250 times more often than the other.
+        table = [[NOUGHT, (2 ** 250, 1), (1, 2 ** 250)], [NOUGHT, ONE, NOUGHT], [NOUGHT, NOUGHT, NOUGHT]]
+        self.assert_unlike(("a", [ONE, NOUGHT, NOUGHT], [table], [NOUGHT, (2 ** 12, 1), ONE]), empty, 1)
 
     def test_a_row_that_no_place_leads_on_the_way_to_the_shortest_word(self):
         # By a, a number that is no unit, and again by a to the end; by b the longer way there.
@@ -79,6 +100,16 @@ class ComparingTest(test_comparing.Asked):
         other[0][3] = other[3][4] = other[4][2] = ONE
         plan = ("ab", [ONE] + [NOUGHT] * 4, [table, other], [NOUGHT, NOUGHT, ONE, NOUGHT, NOUGHT])
         self.assert_unlike(plan, plan_of(0, "ab", 0), 2)
+
+    def test_moduli_that_disagree(self):
+        # Many searches are needed to tell the great number, and some of them take the two rows for one.
+        great = part_of(Fraction(3 ** 2000, 7 ** 700))
+        for number in UNLUCKY:
+            table = [[ONE, (number, 1)], [NOUGHT, (2, 1)]]
+            plan = ("a", [ONE, NOUGHT], [table], [ONE, (2, 3)])
+            for other in (with_room_scaled(plan, 0, great), with_room_scaled(plan, 1, great)):
+                self.assert_alike(plan, other)
+                self.assert_alike(other, other)
 
     def test_rows_that_differ_by_such_a_number(self):
         for number in UNLUCKY:
@@ -123,13 +154,26 @@ class MakingTest(test_making.Asked):
 
 
 class SearchTest(unittest.TestCase):
-    def test_rests_that_no_place_leads(self):
+    def test_moduli(self):
+        some = Moduli()
+        told = [some.another() for _ in range(150)]
+        self.assertEqual(told[:4], [FIRST, SECOND, THIRD, FOURTH])
+        for at, modulus in enumerate(told):
+            self.assertEqual(modulus.bit_length(), 513)
+            self.assertEqual([gcd(modulus, other) for other in told[:at]], [1] * at)
+            self.assertTrue(all(modulus % small for small in range(2, 101)))
+
+    def test_rests_that_do_not_tell(self):
         rests = Rests(FIRST)
         self.assertIsNone(rests.put([0, FACTOR]))
-        self.assertIs(rests.put([FACTOR, 2]), True)
-        self.assertIs(rests.put([3 * FACTOR, 6]), False)
-        self.assertIsNone(rests.put([4 * FACTOR, 6]))
-        self.assertEqual(rests.leads, [1])
+        self.assertIsNone(rests.put([FACTOR, 1]))
+        self.assertEqual(rests.leads, [])
+        self.assertIs(rests.put([0, 2]), True)
+        self.assertIs(rests.put([0, FACTOR]), False)
+        self.assertIs(rests.put([FIRST, 5]), False)
+        self.assertIsNone(rests.put([3 * FACTOR, 6]))
+        self.assertIs(rests.put([3, 6]), True)
+        self.assertEqual((rests.leads, rests.rows), ([1, 0], [[0, 1], [1, 0]]))
 
     def test_words_in_order_and_rows_by_leads(self):
         for parts in (small_parts, rare_parts):
