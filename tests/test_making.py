@@ -30,7 +30,7 @@ def has_great_numbers(plan):
 def some_words(plan, below):
     """All words of fewer signs than told, or some of them where these are too many for fractions."""
     signs, size = plan[0], len(plan[1])
-    limit = 130
+    limit = 40
     if has_great_numbers(plan):
         limit, below = (16, min(below, 4)) if size < 8 else (5, min(below, 2))
     most = below - 1
@@ -96,7 +96,7 @@ class SmallTest(Asked):
         for seed, size in enumerate(range(5)):
             for signs in ("", "a", "ab", "cfx"):
                 for parts in (small_parts, rare_parts, big_parts):
-                    for turn in range(3):
+                    for turn in range(2):
                         self.hold_small(plan_of(size, signs, seed + 20 * turn, parts))
 
     def test_against_all_rows_of_weights(self):

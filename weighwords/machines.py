@@ -43,7 +43,7 @@ class Step:
             self.bottom = lcm(self.bottom, below)
         # Where there are many bottoms, that of one column is far less than that of all: so each
         # place is summed over its own, and only the sum is taken so many times more.
-        self.more = [self.bottom // below for _, below in wholes]
+        self.more = [self.bottom // own for _, own in wholes]
 
     def led(self, row):
         """The row led by the moves, over as many times its bottom as this step's bottom tells."""
